@@ -1,25 +1,25 @@
 """The interface: a list of calls on one new bed is read, and answered in one list."""
 
-from resindrawn.changes import change_cell, change_inlets, change_ratio, change_table, change_vents, start_bed
-from resindrawn.questions import ask_air, ask_last, ask_time, ask_wet, ask_whom
+from resindrawn.changes import CHANGES
+from resindrawn.questions import QUESTIONS
 from resindrawn.state import NOT_STARTED, Bed
 
 START = 0
 
-# by a call's number: what answers it, how many whole numbers it has, how many rows stand behind these
-CALLS = (
-    (start_bed, 0, 1),
-    (change_cell, 2, 0),
-    (change_inlets, 1, 0),
-    (change_vents, 1, 0),
-    (change_table, 0, 2),
-    (change_ratio, 3, 0),
-    (ask_time, 2, 0),
-    (ask_wet, 1, 0),
-    (ask_whom, 1, 0),
-    (ask_last, 0, 0),
-    (ask_air, 0, 0),
-)
+# by a call's number: how many whole numbers it has, and how many rows stand behind these
+SHAPES = {
+    0: (0, 1),
+    1: (2, 0),
+    2: (1, 0),
+    3: (1, 0),
+    4: (0, 2),
+    5: (3, 0),
+    6: (2, 0),
+    7: (1, 0),
+    8: (1, 0),
+    9: (0, 0),
+    10: (0, 0),
+}
 
 
 class Reader:
@@ -44,17 +44,21 @@ class Reader:
         return self.read_numbers(self.read_number())
 
 
-def answer_call(bed, reader):
-    number = reader.read_number()
-    call = CALLS[number]
-    answer = call[0]
-    # what is told is read in any case: the next call stands behind it
-    told = reader.read_numbers(call[1])
-    for row in range(call[2]):
+def read_told(reader, number):
+    """What is told with a call: its whole numbers, then its rows as lists."""
+    shape = SHAPES[number]
+    told = reader.read_numbers(shape[0])
+    for row in range(shape[1]):
         told.append(reader.read_row())
+    return told
+
+
+def answer_call(bed, number, told):
     if number != START and not bed.is_started():
         return [NOT_STARTED]
-    return answer(bed, told)
+    if number in CHANGES:
+        return CHANGES[number](bed, told)
+    return QUESTIONS[number](bed, told)
 
 
 def answers(calls):
@@ -62,7 +66,8 @@ def answers(calls):
     reader = Reader(calls)
     given = []
     while not reader.is_at_end():
-        answer = answer_call(bed, reader)
+        number = reader.read_number()
+        answer = answer_call(bed, number, read_told(reader, number))
         given.append(len(answer))
         given.extend(answer)
     return given

@@ -82,3 +82,14 @@ def change_ratio(bed, told):
     bed.hardener_part = parts[1]
     bed.thousandths = thousandths
     return [0]
+
+
+# by the number of the call
+CHANGES = {
+    0: start_bed,
+    1: change_cell,
+    2: change_inlets,
+    3: change_vents,
+    4: change_table,
+    5: change_ratio,
+}

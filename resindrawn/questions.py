@@ -12,31 +12,36 @@ def ask_time(bed, told):
     return [front_minutes(bed.cells, inlet, cell)]
 
 
+def wet_refusals(bed, cell):
+    """Why it can't be told how a cell is wetted, the first named first."""
+    refusals = []
+    if not bed.has_cell(cell):
+        refusals.append(NOT_AS_TOLD)
+    if bed.inlet_bits == 0:
+        refusals.append(NO_INLET)
+    return refusals
+
+
 def ask_wet(bed, told):
     cell = told[0]
-    inlets = bed.inlet_cells()
-    if not bed.has_cell(cell):
-        return [NOT_AS_TOLD]
-    if not inlets:
-        return [NO_INLET]
-    return [wet_minutes(bed.cells, inlets, cell)]
+    refusals = wet_refusals(bed, cell)
+    if refusals:
+        return refusals[:1]
+    return [wet_minutes(bed.cells, bed.inlet_cells(), cell)]
 
 
 def ask_whom(bed, told):
     cell = told[0]
-    inlets = bed.inlet_cells()
-    if not bed.has_cell(cell):
-        return [NOT_AS_TOLD]
-    if not inlets:
-        return [NO_INLET]
-    return [wetting_inlet(bed.cells, inlets, cell)]
+    refusals = wet_refusals(bed, cell)
+    if refusals:
+        return refusals[:1]
+    return [wetting_inlet(bed.cells, bed.inlet_cells(), cell)]
 
 
 def ask_last(bed, told):
-    inlets = bed.inlet_cells()
-    if not inlets:
+    if bed.inlet_bits == 0:
         return [NO_INLET]
-    minutes = all_wet_minutes(bed.cells, inlets)
+    minutes = all_wet_minutes(bed.cells, bed.inlet_cells())
     latest = max(minutes)
     return [latest, minutes.index(latest)]
 
@@ -44,3 +49,13 @@ def ask_last(bed, told):
 def ask_air(bed, told):
     places = shut_in_cells(bed.cells, bed.inlet_cells(), bed.vent_cells())
     return [len(places)] + places
+
+
+# by the number of the call
+QUESTIONS = {
+    6: ask_time,
+    7: ask_wet,
+    8: ask_whom,
+    9: ask_last,
+    10: ask_air,
+}
