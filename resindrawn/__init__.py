@@ -1,1 +1,1 @@
-"""Resin drawn in: when the cells of a row are wet, from which inlet, and where air is shut in."""
+"""Resin drawn in: when the cells of a row are wet, where air is shut in, what is good before it sets, how to mix it."""

@@ -1,11 +1,11 @@
 """The calls that tell the bed something. Each takes the bed and what is told, and answers a list."""
 
+from resindrawn.setting import MOST_WARMTH
 from resindrawn.state import NOT_AS_TOLD
 
 MOST_CELLS = 8
 MOST_RESISTED = 100
 MOST_ROWS = 8
-MOST_WARMTH = 100
 MOST_MINUTES = 100000
 MOST_PART = 1000
 MOST_THOUSANDTHS = 500

@@ -3,6 +3,7 @@
 NOT_STARTED = -11
 NOT_AS_TOLD = -22
 NO_INLET = -6
+NONE_DOES = -33
 
 
 class Bed:
@@ -39,3 +40,10 @@ class Bed:
 
     def cells_of(self, bits):
         return [cell for cell in range(len(self.cells)) if (bits >> cell) & 1 == 1]
+
+    def how_many_of(self, bits):
+        return len(self.cells_of(bits))
+
+    def inlet_sets(self):
+        """Every set of inlets but the empty one, as bits, rising."""
+        return list(range(1, 1 << len(self.cells)))

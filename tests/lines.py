@@ -49,6 +49,46 @@ def air():
     return [10]
 
 
+def sets(t):
+    return [11, t]
+
+
+def in_time(t):
+    return [12, t]
+
+
+def good(t):
+    return [13, t]
+
+
+def warmest():
+    return [14]
+
+
+def fewest(t):
+    return [15, t]
+
+
+def soonest(k):
+    return [16, k]
+
+
+def mixed(x, y):
+    return [17, x, y]
+
+
+def hard(x):
+    return [18, x]
+
+
+def front(n):
+    return [19, n]
+
+
+def state():
+    return [20]
+
+
 def line_of(calls):
     line = []
     for call in calls:
@@ -82,13 +122,25 @@ def ask_behind(before, calls):
     return ask(*before, *calls)[len(before):]
 
 
+def ask_many_behind(before, calls):
+    """The same for more calls than one list may hold; they must not change anything for one another."""
+    room = 200 - len(before)
+    asked = []
+    for at in range(0, len(calls), room):
+        asked += ask_behind(before, calls[at:at + room])
+    return asked
+
+
 def probes(how_many):
-    """Calls that show all that calls 0 to 10 can show of a bed with so many cells."""
+    """Calls that show all that is told of a bed with so many cells, and what follows from it."""
     row = range(how_many)
-    calls = [time(a, j) for a in row for j in row]
+    calls = [state()] + [time(a, j) for a in row for j in row]
     calls += [wet(j) for j in row] + [whom(j) for j in row] + [last(), air()]
-    # these two tell what was told before, so they stand last
-    return calls + [inlets(0), vents(0)]
+    return calls + [sets(t) for t in range(0, 101, 5)] + [warmest(), fewest(15), hard(200)]
+
+
+def inlets_of(bits):
+    return [j for j in range(8) if bits & (1 << j)]
 
 
 def numbers_from(seed):

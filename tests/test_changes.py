@@ -2,10 +2,8 @@
 
 import unittest
 
-from resindrawn.changes import change_ratio, change_table, start_bed
-from resindrawn.state import Bed
-from tests.lines import (MOST, air, ask, ask_behind, cell, inlets, last, probes, ratio, start, table, time, vents,
-                         wet, whom)
+from tests.lines import (MOST, air, ask, ask_behind, cell, fewest, front, good, hard, in_time, inlets, last, mixed,
+                         probes, ratio, sets, soonest, start, state, table, time, vents, warmest, wet, whom)
 
 OTHER_CALLS = {
     "cell": cell(0, 5),
@@ -18,6 +16,16 @@ OTHER_CALLS = {
     "whom": whom(0),
     "last": last(),
     "air": air(),
+    "sets": sets(20),
+    "inTime": in_time(20),
+    "good": good(20),
+    "warmest": warmest(),
+    "fewest": fewest(20),
+    "soonest": soonest(1),
+    "mixed": mixed(100, 30),
+    "hard": hard(100),
+    "front": front(5),
+    "state": state(),
 }
 
 # the same calls, told what they would refuse behind a start
@@ -30,11 +38,16 @@ OTHER_CALLS_REFUSED = {
     "time": time(9, 9),
     "wet": wet(MOST),
     "whom": whom(MOST),
+    "sets": sets(MOST),
+    "fewest": fewest(MOST),
+    "soonest": soonest(0),
+    "mixed": mixed(10001, 10001),
+    "hard": hard(0),
 }
 
 
 class RefusalCase(unittest.TestCase):
-    BEFORE = [start([3, 1, 4, 1, 5]), inlets(0b01001), vents(0b00100)]
+    BEFORE = [start([3, 1, 4, 1, 5]), inlets(0b01001), vents(0b00100), table([10, 20], [30, 15]), ratio(7, 9, 3)]
 
     def assert_refused(self, call, number=-22):
         """The call is answered by the number alone, and all shows as it would without it."""
@@ -103,37 +116,26 @@ class Start(RefusalCase):
         self.assertEqual(ask_behind([start([5, 5])], [last(), air(), inlets(3), air(), vents(1)]),
                          [[-6], [0], [0], [1, 0], [0]])
 
+    def test_begins_without_a_table(self):
+        self.assertEqual(ask_behind([start([5])], [sets(t) for t in range(101)]), [[-33]] * 101)
+
+    def test_begins_with_the_ratio_100_to_30_and_20_thousandths(self):
+        self.assertEqual(ask_behind([start([5])], [state(), hard(200), mixed(10000, 2940), mixed(10000, 2939)]),
+                         [[1, 0, 0, 0, 100, 30, 20], [59, 61], [1], [0]])
+
     def test_a_second_start_begins_anew(self):
         shown = probes(3)
-        before = self.BEFORE + [table([10], [20]), ratio(1, 1, 0), cell(0, 77), start([9, 8, 7])]
+        before = self.BEFORE + [cell(0, 77), start([9, 8, 7])]
         self.assertEqual(ask_behind(before, shown), ask_behind([start([9, 8, 7])], shown))
 
     def test_a_second_start_takes_away_cells(self):
         self.assertEqual(ask_behind(self.BEFORE, [start([2]), time(0, 1), inlets(2), inlets(1), last()]),
                          [[1], [-22], [-22], [0], [2, 0]])
 
-    def test_the_table_and_the_ratio_at_a_start(self):
-        bed = Bed()
-        start_bed(bed, [[5]])
-        change_table(bed, [[10, 20], [30, 15]])
-        change_ratio(bed, [7, 9, 500])
-        self.assertEqual(start_bed(bed, [[5, 6]]), [2])
-        self.assertEqual((bed.warmths, bed.minutes), ([], []))
-        self.assertEqual((bed.resin_part, bed.hardener_part, bed.thousandths), (100, 30, 20))
-
     def test_a_refused_start_behind_one_that_was_not(self):
         for refused in (start([]), start([1] * 9), start([4, 0, 4]), start([101])):
             with self.subTest(refused):
                 self.assert_refused(refused)
-
-    def test_a_refused_start_keeps_the_table_and_the_ratio(self):
-        bed = Bed()
-        start_bed(bed, [[5]])
-        change_table(bed, [[10, 20], [30, 15]])
-        change_ratio(bed, [7, 9, 500])
-        self.assertEqual(start_bed(bed, [[0]]), [-22])
-        self.assertEqual((bed.warmths, bed.minutes), ([10, 20], [30, 15]))
-        self.assertEqual((bed.resin_part, bed.hardener_part, bed.thousandths), (7, 9, 500))
 
 
 class Cell(RefusalCase):
@@ -142,7 +144,8 @@ class Cell(RefusalCase):
                          [[3], [4], [9], [3], [3]])
 
     def test_resists_what_is_told_from_then_on(self):
-        self.assertEqual(ask_behind([start([3, 1, 4]), inlets(1)], [last(), cell(1, 10), last(), time(1, 1), time(2, 2)]),
+        self.assertEqual(ask_behind([start([3, 1, 4]), inlets(1)],
+                                    [last(), cell(1, 10), last(), time(1, 1), time(2, 2)]),
                          [[3 + 4 + 8, 2], [1], [3 + 13 + 17, 2], [10], [4]])
 
     def test_keeps_inlets_and_vents(self):
@@ -193,11 +196,7 @@ class InletsAndVents(RefusalCase):
 class Table(RefusalCase):
     def assert_table_refused(self, warmths, minutes):
         self.assert_refused(table(warmths, minutes))
-        bed = Bed()
-        start_bed(bed, [[5]])
-        change_table(bed, [[10, 20], [30, 15]])
-        self.assertEqual(change_table(bed, [warmths, minutes]), [-22])
-        self.assertEqual((bed.warmths, bed.minutes), ([10, 20], [30, 15]))
+        self.assertEqual(ask(start([5]), table(warmths, minutes), state()), [[1], [-22], [1, 0, 0, 0, 100, 30, 20]])
 
     def test_tells_how_many_rows(self):
         for rows in range(1, 9):
@@ -243,27 +242,20 @@ class Table(RefusalCase):
         self.assert_table_refused(list(range(9)), [9] * 8)
 
     def test_is_the_table_from_then_on(self):
-        bed = Bed()
-        start_bed(bed, [[5]])
-        self.assertEqual((bed.warmths, bed.minutes), ([], []))
-        self.assertEqual(change_table(bed, [[10, 20], [30, 15]]), [2])
-        self.assertEqual((bed.warmths, bed.minutes), ([10, 20], [30, 15]))
-        self.assertEqual(change_table(bed, [[50], [1]]), [1])
-        self.assertEqual((bed.warmths, bed.minutes), ([50], [1]))
+        self.assertEqual(ask_behind(self.BEFORE, [sets(10), sets(50), table([30, 50], [8, 1]), sets(10), sets(50),
+                                                  sets(30), table([10], [100000]), sets(10), sets(50)]),
+                         [[30], [-33], [2], [-33], [1], [8], [1], [100000], [-33]])
 
     def test_changes_nothing_else(self):
-        shown = probes(5)
+        shown = [one for one in probes(5) if one[0] < 11]
         self.assertEqual(ask_behind(self.BEFORE + [table([20], [9])], shown), ask_behind(self.BEFORE, shown))
+        self.assertEqual(ask_behind(self.BEFORE, [table([20], [9]), state()]), [[1], [5, 9, 4, 1, 7, 9, 3]])
 
 
 class Ratio(RefusalCase):
     def assert_ratio_refused(self, p, q, near):
         self.assert_refused(ratio(p, q, near))
-        bed = Bed()
-        start_bed(bed, [[5]])
-        change_ratio(bed, [7, 9, 3])
-        self.assertEqual(change_ratio(bed, [p, q, near]), [-22])
-        self.assertEqual((bed.resin_part, bed.hardener_part, bed.thousandths), (7, 9, 3))
+        self.assertEqual(ask(start([5]), ratio(p, q, near), state()), [[1], [-22], [1, 0, 0, 0, 100, 30, 20]])
 
     def test_p_and_q_are_1_to_1000(self):
         self.assert_taken(ratio(1, 1, 20), [0])
@@ -283,15 +275,13 @@ class Ratio(RefusalCase):
         self.assert_ratio_refused(100, 30, MOST)
 
     def test_is_the_ratio_from_then_on(self):
-        bed = Bed()
-        start_bed(bed, [[5]])
-        self.assertEqual((bed.resin_part, bed.hardener_part, bed.thousandths), (100, 30, 20))
-        self.assertEqual(change_ratio(bed, [7, 9, 500]), [0])
-        self.assertEqual((bed.resin_part, bed.hardener_part, bed.thousandths), (7, 9, 500))
+        self.assertEqual(ask_behind(self.BEFORE, [hard(7), ratio(2, 1, 500), hard(2), hard(7), state()]),
+                         [[9, 9], [0], [1, 1], [2, 5], [5, 9, 4, 2, 2, 1, 500]])
 
     def test_changes_nothing_else(self):
-        shown = probes(5)
+        shown = [one for one in probes(5) if one[0] not in (hard(1)[0], state()[0])]
         self.assertEqual(ask_behind(self.BEFORE + [ratio(1, 2, 3)], shown), ask_behind(self.BEFORE, shown))
+        self.assertEqual(ask_behind(self.BEFORE, [ratio(1, 2, 3), state()]), [[0], [5, 9, 4, 2, 1, 2, 3]])
 
 
 if __name__ == "__main__":

@@ -1,8 +1,10 @@
-"""Point 2: time, wet, whom, last, air; with the document's corners."""
+"""Point 2: time, wet, whom, last, air, front; with the document's corners."""
 
 import unittest
 
-from tests.lines import MOST, air, ask, ask_behind, cell, inlets, last, probes, start, time, vents, wet, whom
+from tests.lines import (MOST, air, ask, ask_behind, cell, fewest, front, good, hard, in_time, inlets, last, mixed,
+                         mixed_rows, probes, ratio, sets, soonest, start, state, table, time, vents, warmest, wet,
+                         whom)
 
 
 def asked_of_each(call, before, how_many):
@@ -181,25 +183,86 @@ class Air(unittest.TestCase):
                          [[1, 1], [1], [1, 0]])
 
 
+class Front(unittest.TestCase):
+    # from the inlet 1 the cells are wet at 5, 1, 6
+    ROW = [start([3, 1, 4]), inlets(0b010)]
+
+    def test_just_when_a_cell_gets_wet_and_one_minute_sooner(self):
+        self.assertEqual(ask_behind(self.ROW, [front(n) for n in range(8)]),
+                         [[0], [1, 1], [1, 1], [1, 1], [1, 1], [2, 0, 1], [3, 0, 1, 2], [3, 0, 1, 2]])
+
+    def test_no_inlet(self):
+        for n in (0, 1, 100, 100000, MOST):
+            with self.subTest(n):
+                self.assertEqual(ask_behind([start([3, 1, 4])], [front(n)]), [[0]])
+                self.assertEqual(ask_behind(self.ROW + [vents(7), inlets(0)], [front(n)]), [[0]])
+
+    def test_n_at_0(self):
+        self.assertEqual(ask_behind([start([1] * 8), inlets(255)], [front(0), front(1)]),
+                         [[0], [8, 0, 1, 2, 3, 4, 5, 6, 7]])
+
+    def test_the_greatest_n(self):
+        self.assertEqual(ask_behind(self.ROW, [front(MOST)]), [[3, 0, 1, 2]])
+        self.assertEqual(ask_behind([start([100] * 8), inlets(1)], [front(3599), front(3600), front(MOST)]),
+                         [[7, 0, 1, 2, 3, 4, 5, 6], [8, 0, 1, 2, 3, 4, 5, 6, 7], [8, 0, 1, 2, 3, 4, 5, 6, 7]])
+
+    def test_cells_apart_rising(self):
+        self.assertEqual(ask_behind([start([1, 9, 1, 9, 2]), inlets(0b10101)],
+                                    [front(1), front(2), front(10), front(11)]),
+                         [[2, 0, 2], [3, 0, 2, 4], [3, 0, 2, 4], [5, 0, 1, 2, 3, 4]])
+
+    def test_a_later_cell_before_an_earlier_one(self):
+        self.assertEqual(ask_behind([start([3, 1, 4]), inlets(0b100)], [front(n) for n in (3, 4, 8, 9, 16, 17)]),
+                         [[0], [1, 2], [1, 2], [2, 1, 2], [2, 1, 2], [3, 0, 1, 2]])
+
+    def test_one_cell(self):
+        self.assertEqual(ask_behind([start([100]), inlets(1)], [front(99), front(100)]), [[0], [1, 0]])
+
+    def test_what_is_told_anew_counts(self):
+        self.assertEqual(ask_behind(self.ROW, [front(5), cell(1, 2), front(5), inlets(0b011), front(5)]),
+                         [[2, 0, 1], [1], [1, 1], [2], [2, 0, 1]])
+
+    def test_agrees_with_wet(self):
+        for k, cells in enumerate(mixed_rows(83, 40)):
+            before = [start(cells), inlets(1 + k * 11 % ((1 << len(cells)) - 1))]
+            minutes = asked_of_each(wet, before, len(cells))
+            for n in sorted({m + more for m in minutes for more in (-1, 0, 1)}):
+                expected = [j for j in range(len(cells)) if minutes[j] <= n]
+                with self.subTest(cells, n=n):
+                    self.assertEqual(ask_behind(before, [front(n)]), [[len(expected)] + expected])
+
+
 class AskingChangesNothing(unittest.TestCase):
+    BEFORE = [start([3, 1, 4, 1]), inlets(0b1001), vents(0b0001), table([10, 20], [30, 5]), ratio(7, 9, 3)]
+
     def test_asked_twice_all_is_the_same(self):
-        before = [start([3, 1, 4, 1]), inlets(0b1001), vents(0b0001)]
-        shown = probes(4)[:-2]
-        twice = ask_behind(before, shown + shown)
+        shown = probes(4)
+        twice = ask_behind(self.BEFORE, shown + shown)
         self.assertEqual(twice[:len(shown)], twice[len(shown):])
 
-    def test_refused_questions_change_nothing(self):
-        before = [start([3, 1, 4, 1]), inlets(0b1001), vents(0b0001)]
-        refused = [time(4, 0), time(0, 4), wet(4), whom(4), wet(MOST), whom(MOST)]
+    def test_each_question_leaves_all_as_it_was(self):
         shown = probes(4)
-        self.assertEqual(ask_behind(before + refused, shown), ask_behind(before, shown))
-        self.assertEqual(ask_behind(before, refused), [[-22]] * len(refused))
+        as_before = ask_behind(self.BEFORE, shown)
+        for asked in (time(0, 3), wet(1), whom(1), last(), air(), sets(10), sets(13), in_time(12), good(12), warmest(),
+                      fewest(10), fewest(20), soonest(1), soonest(2), soonest(4), mixed(7, 9), mixed(7, 1), hard(7),
+                      hard(200), front(5), front(MOST), state()):
+            with self.subTest(asked):
+                self.assertEqual(ask_behind(self.BEFORE + [asked], shown), as_before)
+
+    def test_refused_questions_change_nothing(self):
+        refused = [time(4, 0), time(0, 4), wet(4), whom(4), wet(MOST), whom(MOST), soonest(0), soonest(5),
+                   soonest(MOST), mixed(10001, 0), mixed(0, 10001), hard(0), hard(201)]
+        by_none = [sets(9), sets(MOST), fewest(21), fewest(MOST), hard(1)]
+        shown = probes(4)
+        self.assertEqual(ask_behind(self.BEFORE + refused + by_none, shown), ask_behind(self.BEFORE, shown))
+        self.assertEqual(ask_behind(self.BEFORE, refused), [[-22]] * len(refused))
+        self.assertEqual(ask_behind(self.BEFORE, by_none), [[-33]] * len(by_none))
 
     def test_refused_for_want_of_an_inlet_changes_nothing(self):
         shown = probes(2)
-        refused = [wet(0), whom(1), last()]
+        refused = [wet(0), whom(1), last(), warmest()]
         self.assertEqual(ask_behind([start([3, 1])] + refused, shown), ask_behind([start([3, 1])], shown))
-        self.assertEqual(ask(start([3, 1]), *refused), [[2], [-6], [-6], [-6]])
+        self.assertEqual(ask(start([3, 1]), *refused), [[2], [-6], [-6], [-6], [-33]])
 
 
 if __name__ == "__main__":
